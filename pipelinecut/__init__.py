@@ -1,0 +1,1 @@
+"""Makers and takers at bounded pipes."""
