@@ -40,8 +40,8 @@ class PackageTest(unittest.TestCase):
 
     def test_files_are_found(self):
         names = [os.path.relpath(path, FOLDER) for path, _ in trees()]
-        self.assertIn("nets.py", names)
-        self.assertIn("errors.py", names)
+        for name in ("errors.py", "nets.py", "states.py", "runs.py", "notes.py"):
+            self.assertIn(name, names)
 
 
 if __name__ == "__main__":
